@@ -1,0 +1,1 @@
+"""Orderneed: which messages must stay in order."""
