@@ -35,7 +35,8 @@ def format_program(program):
     hears = " ".join(["hears", *program.names])
     outputs = [" ".join(["output", name, *signals]) for name, signals in program.outputs]
     states = [f"state {name} {kept}" for name, kept in program.states]
-    return "\n".join([hears, *outputs, *states, *_rule_lines(program)])
+    rules = _rule_lines(program)
+    return "\n".join([hears, *outputs, *states, *rules])
 
 
 def _rule_lines(program):
