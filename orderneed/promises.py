@@ -35,6 +35,13 @@ def keeps(promise, first, second):
     return any([item in promise.entries for item in _order_items(first, second)])
 
 
+def relation_of(number, other):
+    """Return the relation of a number to another one."""
+    if number < other:
+        return "less"
+    return "equal" if number == other else "greater"
+
+
 def shows_harm(item, sent, came):
     """Return whether a sequence breaks an item for the sent one."""
     before = [tuple(message) for message in sent]
@@ -54,14 +61,8 @@ def _order_items(first, second):
     Which message comes first does not matter, so each of them is named first once. A form that is no
     item, as that of two equal messages or that with the later name first, is in no promise.
     """
-    return [("order", one[0], other[0], _relation(one[1], other[1]))
+    return [("order", one[0], other[0], relation_of(one[1], other[1]))
             for one, other in ((first, second), (second, first))]
-
-
-def _relation(number, other):
-    if number < other:
-        return "less"
-    return "equal" if number == other else "greater"
 
 
 def _is_exchange(item, before, after):
